@@ -188,8 +188,9 @@ func appendValue(b []byte, v Value) []byte {
 }
 
 // The shift by MaxNumber puts numbers below 0 ahead of the others when bytes are held against each other.
-func numberBytes(n int) [numberSize]byte {
-	u := uint32(n + MaxNumber)
+func numberBytes(n int) [numberSize]byte { return highFirst(uint32(n + MaxNumber)) }
+
+func highFirst(u uint32) [numberSize]byte {
 	return [numberSize]byte{byte(u >> 24), byte(u >> 16), byte(u >> 8), byte(u)}
 }
 
