@@ -153,7 +153,7 @@ func tellOf(t *testing.T, c call) string {
 }
 
 func TestAnswersDoNotHangOnWhatWasCalledAhead(t *testing.T) {
-	calls := slices.Concat(codeCalls(), diskCalls(), pageCalls(), logCalls())
+	calls := slices.Concat(codeCalls(), diskCalls(), pageCalls(), logCalls(), poolCalls())
 	first := make([]string, len(calls))
 	for i, c := range calls {
 		first[i] = tellOf(t, c)
