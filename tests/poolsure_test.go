@@ -58,27 +58,33 @@ func TestWhatGoesOut(t *testing.T) {
 	for hand := range impl.MaxFrames {
 		s := changed(threeChanged(t), func(s *impl.Store) { s.Hand = hand })
 		f := s.Frames[hand]
-		out := changed(s, func(s *impl.Store) {
+		checkOuts(t, fmt.Sprint("hand ", hand), s, changed(s, func(s *impl.Store) {
 			s.Sure = f.Page.Lsn
 			s.Disk.Sectors = logDisk(impl.DiskSectors, s.Log[:f.Page.Lsn]).Sectors
 			s.Disk.Sectors[0] = header(1)
 			s.Disk.Cache = []impl.Pending{write(pageAt(f.No), bytesOfPage(f.No, f.Page))}
-		})
-		for name, want := range map[string]impl.Store{
-			"FetchPage": changed(out, func(s *impl.Store) {
-				s.Frames[hand], s.Hand = clean(4, page(0, "", "", "", "")), (hand+1)%3
-			}),
-			"ApplyChange": changed(out, func(s *impl.Store) {
-				s.Frames[hand], s.Hand = dirty(4, page(8, "", "", "", "last"), 8), (hand+1)%3
-			}),
-			"EvictPage": changed(out, func(s *impl.Store) { s.Frames, s.Hand = slices.Delete(s.Frames, hand, hand+1), 0 }),
-		} {
-			next, alive, code := outs(s)[name]()
-			if !alive || code != impl.OK {
-				t.Errorf("%s, hand %d: %v, code %d", name, hand, alive, code)
-			}
-			checkStore(t, fmt.Sprintf("%s, hand %d", name, hand), next, want)
+		}))
+	}
+}
+
+// checkOuts: out is the store with the frame at the hand put out, but for the frame itself and the hand.
+func checkOuts(t *testing.T, name string, s, out impl.Store) {
+	t.Helper()
+	hand := s.Hand
+	for of, want := range map[string]impl.Store{
+		"FetchPage": changed(out, func(s *impl.Store) {
+			s.Frames[hand], s.Hand = clean(4, page(0, "", "", "", "")), (hand+1)%3
+		}),
+		"ApplyChange": changed(out, func(s *impl.Store) {
+			s.Frames[hand], s.Hand = dirty(4, page(8, "", "", "", "last"), 8), (hand+1)%3
+		}),
+		"EvictPage": changed(out, func(s *impl.Store) { s.Frames, s.Hand = slices.Delete(s.Frames, hand, hand+1), 0 }),
+	} {
+		next, alive, code := outs(s)[of]()
+		if !alive || code != impl.OK || !impl.StoreOK(next) {
+			t.Errorf("%s, %s: %v, code %d", name, of, alive, code)
 		}
+		checkStore(t, name+", "+of, next, want)
 	}
 }
 
@@ -193,33 +199,89 @@ func TestWhateverACrashKeepsWhatWasSureIsRead(t *testing.T) {
 	}
 }
 
-// TestNoRoomForWrites: the document names no code of a disk that has 500 writes, so the disk's own is told.
-func TestNoRoomForWrites(t *testing.T) {
-	base := threeChanged(t)
+// manyWrites has three dirty pages, and that many writes to sectors of the log, which a flush to 8 does not reach.
+func manyWrites(t *testing.T, n, hand int) impl.Store {
+	t.Helper()
+	return changed(threeChanged(t), func(s *impl.Store) { s.Disk.Cache, s.Hand = writes(n, 20, 68), hand })
+}
+
+// flushed is what the document says of a flush: the records are on the disk, and no write is left that is not sure.
+func flushed(s impl.Store, lsn int) impl.Store {
+	return changed(s, func(s *impl.Store) {
+		for _, w := range s.Disk.Cache {
+			s.Disk.Sectors[w.At] = w.Data
+		}
+		for _, r := range s.Log[s.Sure:lsn] {
+			s.Disk.Sectors[impl.LogAt+r.Lsn-1] = bytesOfRecord(r)
+		}
+		s.Disk.Cache, s.Sure = nil, lsn
+	})
+}
+
+func TestFlushWithManyWrites(t *testing.T) {
 	for n := 490; n <= 500; n++ {
-		s := changed(base, func(s *impl.Store) { s.Disk.Cache = writes(n, 20, 68) })
+		s := manyWrites(t, n, 0)
 		for lsn := 1; lsn <= 8; lsn++ {
+			name := fmt.Sprintf("%d writes, flushed to %d", n, lsn)
 			next, alive, code := impl.FlushLog(s, lsn)
-			checkRoom(t, fmt.Sprintf("%d writes, flushed to %d", n, lsn), s, next, alive, code, n+lsn <= 500)
+			if !alive || code != impl.OK || !impl.StoreOK(next) {
+				t.Errorf("%s: %v, code %d", name, alive, code)
+			}
+			checkStore(t, name, next, flushed(s, lsn))
+			checkLog(t, name, next.Disk, 1, s.Log[:lsn])
 		}
-		for name, out := range outs(s) {
-			next, alive, code := out()
-			checkRoom(t, fmt.Sprintf("%d writes, %s", n, name), s, next, alive, code, n+5 <= 500)
+		next, alive, code := impl.FlushLog(s, 0)
+		if !alive || code != impl.OK {
+			t.Errorf("%d writes, flushed to 0: %v, code %d", n, alive, code)
 		}
-		sure := changed(s, func(s *impl.Store) { s.Sure = 8 })
-		for name, out := range outs(sure) {
-			next, alive, code := out()
-			checkRoom(t, fmt.Sprintf("%d writes, all sure, %s", n, name), sure, next, alive, code, n < 500)
+		checkStore(t, fmt.Sprint(n, " writes, flushed to 0"), next, s)
+	}
+}
+
+func TestPagesGoOutBehindManyWrites(t *testing.T) {
+	for _, n := range []int{490, 494, 495, 496, 497, 498, 499, 500} {
+		for hand, lsn := range []int{5, 7, 6} {
+			s := manyWrites(t, n, hand)
+			f := s.Frames[hand]
+			out := changed(flushed(s, lsn), func(s *impl.Store) {
+				s.Disk.Cache = []impl.Pending{write(pageAt(f.No), bytesOfPage(f.No, f.Page))}
+			})
+			checkOuts(t, fmt.Sprintf("%d writes, hand %d", n, hand), s, out)
 		}
 	}
 }
 
-func checkRoom(t *testing.T, name string, s, next impl.Store, alive bool, code int, room bool) {
-	t.Helper()
-	if room && (!alive || code != impl.OK) || !room && (alive || code != impl.ErrFull) {
-		t.Errorf("%s: %v, code %d", name, alive, code)
+func TestPowerGoesBehindManyWrites(t *testing.T) {
+	all := slices.Repeat([]int{1}, 500)
+	last := slices.Concat(make([]int, 497), []int{1, 1, 1})
+	for _, n := range []int{492, 493, 494, 495, 498, 499, 500} {
+		for hand, lsn := range []int{5, 7, 6} {
+			for i, keep := range [][]int{nil, all, last, all[:n]} {
+				name := fmt.Sprintf("%d writes, hand %d, keep %d", n, hand, i)
+				checkPowerGone(t, name, armed(manyWrites(t, n, hand), keep...), lsn)
+			}
+		}
 	}
-	if !room {
-		checkStore(t, name, next, s)
+}
+
+// TestNoRoomForAPage: where nothing is to be flushed ahead of it, a page is one write more that is not sure; the document
+// names no code of a disk that has 500 of these, so the disk's own is told.
+func TestNoRoomForAPage(t *testing.T) {
+	for hand := range impl.MaxFrames {
+		for _, n := range []int{0, 498, 499} {
+			s := changed(manyWrites(t, n, hand), func(s *impl.Store) { s.Sure = 8 })
+			f := s.Frames[hand]
+			checkOuts(t, fmt.Sprintf("%d writes, all sure, hand %d", n, hand), s, changed(s, func(s *impl.Store) {
+				s.Disk.Cache = append(s.Disk.Cache, write(pageAt(f.No), bytesOfPage(f.No, f.Page)))
+			}))
+		}
+		s := changed(manyWrites(t, 500, hand), func(s *impl.Store) { s.Sure = 8 })
+		for name, out := range outs(s) {
+			next, alive, code := out()
+			if alive || code != impl.ErrFull {
+				t.Errorf("500 writes, %s, hand %d: %v, code %d", name, hand, alive, code)
+			}
+			checkStore(t, "500 writes, "+name, next, s)
+		}
 	}
 }

@@ -153,7 +153,7 @@ func tellOf(t *testing.T, c call) string {
 }
 
 func TestAnswersDoNotHangOnWhatWasCalledAhead(t *testing.T) {
-	calls := slices.Concat(codeCalls(), diskCalls(), pageCalls(), logCalls(), poolCalls())
+	calls := slices.Concat(codeCalls(), diskCalls(), pageCalls(), logCalls(), poolCalls(), lockCalls())
 	first := make([]string, len(calls))
 	for i, c := range calls {
 		first[i] = tellOf(t, c)
