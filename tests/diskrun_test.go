@@ -263,6 +263,7 @@ func checkDiskApart(t *testing.T, name string, d impl.Disk, keep []int) {
 }
 
 func TestDisksStandApart(t *testing.T) {
+	t.Parallel()
 	keeps := [][]int{nil, {0}, {1, 0, 1}, make([]int, 500), make([]int, 501), make([]int, impl.MaxList+1)}
 	for name, d := range rightDisks() {
 		for i, keep := range keeps {

@@ -116,6 +116,7 @@ func checkHeld(t *testing.T, name string, l impl.Locks) {
 }
 
 func TestRunsOfLocks(t *testing.T) {
+	t.Parallel()
 	codes := map[int]int{}
 	for run := range 120 {
 		x := dice(run)

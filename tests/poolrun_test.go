@@ -221,6 +221,7 @@ func checkSure(t *testing.T, name string, s impl.Store) {
 }
 
 func TestRunsOfAPool(t *testing.T) {
+	t.Parallel()
 	gone, longest := 0, 0
 	for run := range 60 {
 		x := dice(run)
@@ -358,6 +359,7 @@ func checkStoreApart(t *testing.T, name string, s impl.Store, n int) {
 }
 
 func TestStoresStandApart(t *testing.T) {
+	t.Parallel()
 	for name, s := range rightStores() {
 		for _, n := range []int{-1, 0, 2, 5, 8} {
 			checkStoreApart(t, fmt.Sprintf("%s, with %d", name, n), s, n)

@@ -153,7 +153,8 @@ func tellOf(t *testing.T, c call) string {
 }
 
 func TestAnswersDoNotHangOnWhatWasCalledAhead(t *testing.T) {
-	calls := slices.Concat(codeCalls(), diskCalls(), pageCalls(), logCalls(), poolCalls(), lockCalls())
+	t.Parallel()
+	calls := slices.Concat(codeCalls(), diskCalls(), pageCalls(), logCalls(), poolCalls(), lockCalls(), engineCalls(t))
 	first := make([]string, len(calls))
 	for i, c := range calls {
 		first[i] = tellOf(t, c)
