@@ -125,6 +125,7 @@ func rightEngines() map[string]impl.Engine {
 		"a Last at a begin":          with(func(e *impl.Engine) { e.Txs[0].Last = 3 }),
 		"a CLR back to the begin":    with(func(e *impl.Engine) { e.Store.Log[8].Next = 3 }),
 		"a CLR back to its update":   with(func(e *impl.Engine) { e.Store.Log[8].Next = 8 }),
+		"a CLR back to one aside":    with(func(e *impl.Engine) { e.Store.Log[7].Prev = 3 }),
 		"one that is over is open":   with(func(e *impl.Engine) { e.Txs[0] = impl.Tx{Id: 1, Last: 2}; e.Locks = impl.Locks{} }),
 		"Next MaxTx + 1":             with(func(e *impl.Engine) { e.Next = impl.MaxTx + 1 }),
 		"10 transactions":            begun(1, 10),
