@@ -73,7 +73,7 @@ func engineAnswers(e impl.Engine, q asked) []engineAnswer {
 	add("AbortTx", engineAnswer{engine: next, code: code})
 	next, code = impl.RollbackTo(e, q.tx, q.lsn)
 	add("RollbackTo", engineAnswer{engine: next, code: code})
-	return list
+	return append(list, restartAnswers(e, q)...)
 }
 
 func tellEngineAnswers(list []engineAnswer) string {
@@ -122,6 +122,10 @@ func manyEngines(t *testing.T) map[string]impl.Engine {
 	list["room for one"], list["a deadlock"] = full.e, locked.e
 	list["spread"], list["spread, armed"] = spreadOut.e, armedEngine(spreadOut.e, 1, 0, 1, 1)
 	list["a row twice"] = twice(t).e
+	list["a story"] = story(t).e
+	list["a disk with a mixed log"] = downWith(diskOf(1, mixedLog()))
+	list["a disk with a mixed log, armed"] = armedEngine(downWith(diskOf(1, mixedLog())), 1)
+	list["a disk with a log of no engine"] = downWith(noEngines()["a CLR to nothing"])
 	return list
 }
 

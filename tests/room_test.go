@@ -54,7 +54,7 @@ func crowded(t *testing.T, n int) (*doer, []int) {
 		d.commit(d.begin())
 	}
 	if roomOf(d.e) == n+1 {
-		d.e.Store.Log = append(d.e.Store.Log, check(1, len(d.e.Store.Log)+1, pairs()+pairs()))
+		d.check()
 	}
 	if roomOf(d.e) == n+2 {
 		d.commit(d.begin())
