@@ -141,7 +141,8 @@ func TestUndoingThatWasCut(t *testing.T) {
 // TestUndoingOfEachBeginning: of each beginning of a log the open ones are undone, as the rules say once more.
 func TestUndoingOfEachBeginning(t *testing.T) {
 	d, _ := crowded(t, 3)
-	logs := map[string][]impl.LogRecord{"a mixed log": mixedLog(), "a crowded log": d.e.Store.Log, "an engine's log": engineLog()}
+	logs := map[string][]impl.LogRecord{"a mixed log": mixedLog(), "a crowded log": d.e.Store.Log, "an engine's log": engineLog(), "a story": story(t).e.Store.Log,
+		"a story, all undone": restarted(t, "a story", downWith(diskOf(1, story(t).e.Store.Log))).Store.Log}
 	for name, log := range logs {
 		for n := range len(log) + 1 {
 			name := fmt.Sprintf("%s, %d records", name, n)

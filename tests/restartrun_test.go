@@ -155,6 +155,7 @@ func (run *restartRun) checkFuture(name string) {
 		}
 		checkUp(t, name, up)
 		checkTables(t, fmt.Sprintf("%s, crash %d keeps %v", name, i, keep), up, want)
+		checkTables(t, fmt.Sprintf("%s, crash %d, cut later", name, i), restarted(t, name, cutLater(x, down, up)), want)
 		if i > 0 && !slices.Equal(up.Store.Log, e.Store.Log) {
 			t.Fatalf("%s, crash %d: a restart of one in which nothing is open changes the log", name, i)
 		}
@@ -169,6 +170,24 @@ func cutSometimes(x *dice, down impl.Engine) (impl.Engine, int) {
 	}
 	armed, _ := impl.ArmEngine(down, x.keep(2))
 	return impl.RestartEngine(armed)
+}
+
+// cutLater is what is left of a restart that was cut behind its header: some of the records that it added, and each page
+// as it was ahead of it, or as it was put out, if that is not ahead of these.
+func cutLater(x *dice, down, up impl.Engine) impl.Engine {
+	n := len(down.Store.Log) + x.below(len(up.Store.Log)-len(down.Store.Log)+1)
+	d := cloneDisk(down.Store.Disk)
+	d.Sectors[0] = header(up.Store.Epoch)
+	for _, r := range up.Store.Log[:n] {
+		d.Sectors[impl.LogAt+r.Lsn-1] = bytesOfRecord(r)
+	}
+	for no := range impl.MaxPages {
+		b, _ := impl.DiskRead(up.Store.Disk, pageAt(no))
+		if p, code := impl.ReadPage(no, []byte(b)); code == impl.OK && p.Lsn <= n && x.below(2) == 0 {
+			d.Sectors[pageAt(no)] = b
+		}
+	}
+	return downWith(d)
 }
 
 func newRestartRun(t *testing.T, n int, codes map[string]int) *restartRun {
