@@ -78,8 +78,8 @@ func CodeOf(word string) int {
 	return -1
 }
 
-func isSmallLetter(c byte) bool { return 'a' <= c && c <= 'z' }
+func isSmallLetter[C byte | rune](c C) bool { return 'a' <= c && c <= 'z' }
 
 func isNameLetter(c byte) bool { return isSmallLetter(c) || 'A' <= c && c <= 'Z' || c == '_' }
 
-func isDigit(c byte) bool { return '0' <= c && c <= '9' }
+func isDigit[C byte | rune](c C) bool { return '0' <= c && c <= '9' }
