@@ -73,7 +73,7 @@ func engineAnswers(e impl.Engine, q asked) []engineAnswer {
 	add("AbortTx", engineAnswer{engine: next, code: code})
 	next, code = impl.RollbackTo(e, q.tx, q.lsn)
 	add("RollbackTo", engineAnswer{engine: next, code: code})
-	return append(list, restartAnswers(e, q)...)
+	return slices.Concat(list, restartAnswers(e, q), execAnswers(e, q))
 }
 
 func tellEngineAnswers(list []engineAnswer) string {
