@@ -1,5 +1,10 @@
 package impl
 
+import (
+	"strconv"
+	"strings"
+)
+
 const (
 	MaxText = 65536
 	MaxList = 4096
@@ -25,6 +30,8 @@ const (
 	ErrKey      = 17
 	ErrColumn   = 18
 	ErrTx       = 19
+
+	maxDigits = 18
 )
 
 var codeWords = [...]string{
@@ -76,6 +83,12 @@ func CodeOf(word string) int {
 		}
 	}
 	return -1
+}
+
+// readNumberText: the way back tells what is read as a number, but is not told so, as digits with a nought ahead are.
+func readNumberText(t string) (int, bool) {
+	n, err := strconv.Atoi(t)
+	return n, err == nil && strconv.Itoa(n) == t && len(strings.TrimPrefix(t, "-")) <= maxDigits
 }
 
 func isSmallLetter[C byte | rune](c C) bool { return 'a' <= c && c <= 'z' }

@@ -154,7 +154,7 @@ func tellOf(t *testing.T, c call) string {
 
 func TestAnswersDoNotHangOnWhatWasCalledAhead(t *testing.T) {
 	t.Parallel()
-	calls := slices.Concat(codeCalls(), diskCalls(), pageCalls(), logCalls(), poolCalls(), lockCalls(), engineCalls(t), restartCalls(), treeCalls(), exprCalls(), compiledCalls(), sqlCalls(t), execCalls(t), worldCalls(t), auditCalls(t))
+	calls := slices.Concat(codeCalls(), diskCalls(), pageCalls(), logCalls(), poolCalls(), lockCalls(), engineCalls(t), restartCalls(), treeCalls(), exprCalls(), compiledCalls(), sqlCalls(t), execCalls(t), worldCalls(t), auditCalls(t), consoleCalls(t))
 	first := make([]string, len(calls))
 	for i, c := range calls {
 		first[i] = tellOf(t, c)

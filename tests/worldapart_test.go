@@ -4,6 +4,7 @@ import (
 	"fmt"
 	"runtime"
 	"slices"
+	"strings"
 	"sync"
 	"testing"
 	"time"
@@ -264,14 +265,17 @@ func TestRunsBesideEachOther(t *testing.T) {
 	}
 }
 
-// TestNoGoroutineIsLeft: neither behind a run nor behind a step, whatever their codes. It runs alone, as it counts.
+// TestNoGoroutineIsLeft: neither behind a run nor behind a step or a console, whatever their codes. It runs alone, as it
+// counts.
 func TestNoGoroutineIsLeft(t *testing.T) {
 	acts, busy, down := chronicle(t), busyWorld(t), downWorld(t)
+	text := strings.Join(busyLines(), "\n")
 	was := runtime.NumGoroutine()
 	for range 50 {
 		impl.WorldRun(acts)
 		impl.WorldRun(make([]impl.WorldAct, impl.MaxActs+1))
 		impl.WorldRun(nil)
+		impl.Console(text)
 		for _, a := range apartActs(t) {
 			impl.WorldStep(busy, a)
 			impl.WorldStep(down, a)
